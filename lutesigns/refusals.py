@@ -1,0 +1,23 @@
+"""What a call refuses, one class for each number."""
+
+
+class Refusal(Exception):
+    """A call is not answered; number says why."""
+
+    def __init__(self, number):
+        self.number = number
+
+
+class TooLong(Refusal):
+    """A text has more bytes than a text may have."""
+
+    def __init__(self):
+        Refusal.__init__(self, -2)
+
+
+class NoPiece(Refusal):
+    """A text is no piece's text; place is where it is at fault."""
+
+    def __init__(self, place):
+        Refusal.__init__(self, -6)
+        self.place = place
