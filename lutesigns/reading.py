@@ -1,22 +1,14 @@
 """Reads a piece's text; NoPiece tells the place where it is at fault."""
 
+from lutesigns.pieces import MOST_LINES, Piece, has_moment
 from lutesigns.refusals import NoPiece
 from lutesigns.signs import GERMAN, KIND_WORDS, LENGTH_SIGNS, ROW_COURSES, row_signs, stop_signs
 
-MOST_LINES = 512
 ROW_END = 10
 BLANK = 32
 POINT = 46
 STROKE = 124
 NO_BYTE = 256
-
-
-class Piece:
-    """A kind and lines; a line is its length and its stops by courses, a bar's length is 0."""
-
-    def __init__(self, kind, lines):
-        self.kind = kind
-        self.lines = lines
 
 
 class SignTable:
@@ -78,7 +70,7 @@ def read_piece(t):
     kind = reader.take_sign(SignTable(KIND_WORDS))
     reader.take(ROW_END)
     lines = read_lines(reader, Form(kind))
-    if all([length == 0 for length, stops in lines]):
+    if not has_moment(lines):
         raise NoPiece(len(t))
     return Piece(kind, lines)
 

@@ -21,3 +21,17 @@ class NoPiece(Refusal):
     def __init__(self, place):
         Refusal.__init__(self, -6)
         self.place = place
+
+
+class NotTaken(Refusal):
+    """A kind that is none, or a number of frets that nothing is moved by."""
+
+    def __init__(self):
+        Refusal.__init__(self, -1)
+
+
+class NoLine(Refusal):
+    """A line, lines or a moment that the piece does not have."""
+
+    def __init__(self):
+        Refusal.__init__(self, -4)

@@ -16,6 +16,7 @@ LENGTH_SIGNS = (
 FRETS = 16
 FRET_LETTERS = ("abcdefghiklmnopq", "0123456789xyzvuw")
 NO_STOP = "."
+BAR = "|"
 
 FIRST_BASS = 7
 BASSES = (
@@ -39,6 +40,15 @@ def german_sign(course, fret):
         return str(6 - course)
     letter = GERMAN_CROSSINGS[5 * ((fret - 1) % 5) + 5 - course]
     return letter * ((fret - 1) // 5 + 1)
+
+
+def stop_sign(kind, course, fret):
+    """The sign of a stop among a moment's stops in a kind."""
+    if course >= FIRST_BASS:
+        return BASSES[kind][course - FIRST_BASS]
+    if kind == GERMAN:
+        return german_sign(course, fret)
+    return FRET_LETTERS[kind][fret]
 
 
 def row_signs(kind):

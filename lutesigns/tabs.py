@@ -1,7 +1,10 @@
 """The calls."""
 
+from lutesigns.pieces import line_numbers
 from lutesigns.reading import read_piece
-from lutesigns.refusals import NoPiece, Refusal, TooLong
+from lutesigns.refusals import NoPiece, NotTaken, Refusal, TooLong
+from lutesigns.signs import KIND_WORDS
+from lutesigns.writing import write_lines
 
 MOST_BYTES = 65536
 
@@ -32,7 +35,39 @@ def sizes(t):
     return [piece.kind, len(moments), bars, stopped, units]
 
 
+def line(i, t):
+    """Line i: 0 of a bar; of a moment its length, how many stops, then each one's course and fret."""
+    try:
+        check_size(t)
+        piece = read_piece(t)
+        return line_numbers(piece.lines, i)
+    except Refusal as refusal:
+        return [refusal.number]
+
+
+def turn(kind, t):
+    """The piece's text in that kind."""
+    try:
+        check_size(t)
+        piece = read_piece(t)
+        check_kind(kind)
+        return counted(write_lines(kind, piece.lines))
+    except Refusal as refusal:
+        return [refusal.number]
+
+
 def check_size(t):
     """Refuses a text that is too long to be read."""
     if len(t) > MOST_BYTES:
         raise TooLong()
+
+
+def check_kind(kind):
+    """Refuses a kind that is none."""
+    if kind >= len(KIND_WORDS):
+        raise NotTaken()
+
+
+def counted(codes):
+    """How many bytes, then these."""
+    return [len(codes)] + codes

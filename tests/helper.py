@@ -75,6 +75,74 @@ def piece_sizes(kind, piece):
     ]
 
 
+def line_told(line):
+    """What the call line answers of a line."""
+    if line is BAR:
+        return [0]
+    length, stops = line
+    return [length, len(stops)] + [number for course in sorted(stops) for number in (course, stops[course])]
+
+
+def counted(text):
+    """A text as a call answers it: how many bytes, then these."""
+    return [len(text)] + codes(text)
+
+
+def some_piece(dice, fewest=0, most=8):
+    """A piece by the dice; of no line, or of bars alone, it is none."""
+    piece = []
+    for number in range(dice.randint(fewest, most)):
+        if dice.random() < 0.25:
+            piece.append(BAR)
+            continue
+        courses = dice.sample(range(1, 15), dice.choice((0, 1, 1, 2, 3, 6, 14)))
+        stops = {course: dice.randint(0, 15) if course < 7 else 0 for course in courses}
+        piece.append((dice.choice((1, 2, 16, 16, 16, 24, 96)), stops))
+    return piece
+
+
+def some_real_piece(dice, most=8):
+    """A piece by the dice, with a moment at least."""
+    while True:
+        piece = some_piece(dice, 1, most)
+        if any(line is not BAR for line in piece):
+            return piece
+
+
+# All 14 courses, at frets that differ.
+FOURTEEN = {1: 0, 2: 15, 3: 7, 4: 10, 5: 1, 6: 12, **{course: 0 for course in range(7, 15)}}
+# Every length where its sign is written, and again where it isn't, behind a moment and behind bars.
+ALL_LENGTHS = [
+    line for length in LENGTHS for line in ((length, {1: 2}), (length, {}), BAR, BAR, (length, {2: 1, 9: 0}))
+]
+# Every stop, one by one.
+EVERY_STOP = [(16, {course: fret}) for course, fret in ALL_STOPS]
+LARGEST = [
+    ((96, 48)[number % 2], {course: 15 if course < 7 else 0 for course in range(1, 15)}) for number in range(512)
+]
+PIECES = [
+    [(1, {})],
+    [(96, FOURTEEN)],
+    [BAR, BAR, (24, {1: 3}), BAR, (24, {}), (12, FOURTEEN), (12, {6: 0, 7: 0}), BAR, (24, {14: 0}), BAR],
+    ALL_LENGTHS,
+    EVERY_STOP,
+    [(8, {1: 0})] * 512,
+    [BAR] * 511 + [(96, {14: 0})],
+    LARGEST,
+]
+
+TOO_LONG = [
+    [0] * 65537,
+    [255] * 66000,
+    codes(piece_text(0, [(8, {1: 0})]).ljust(65537, "|")),
+    codes("german\n" + "x .\n" * 16384),
+]
+NO_PIECES = [codes(text) for text in (
+    "", "french", "french\n", "italian\n|\n", "german\n .\n", "german\nq a e\n", "french\nq a.....\nq b.....\n",
+    "italian\nq 0..... 8 7\n", "french\nq a.....", "german\nq aaaa\n", "lute\nq .\n", "german\n" + "q .\n" + "|\n" * 512,
+)] + [[0] * 65536]
+
+
 # A form is two patterns: of what is whole, and of what may still become whole.
 
 def word(text):

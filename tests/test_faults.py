@@ -3,7 +3,7 @@
 import random
 import unittest
 
-from helper import ALL_STOPS, BAR, KINDS, LENGTHS, WORDS, codes, fault, german_sign, piece_text
+from helper import ALL_STOPS, BAR, KINDS, LENGTHS, WORDS, codes, fault, german_sign, piece_text, some_piece
 from lutesigns.tabs import judge, sizes
 
 FULL = {
@@ -255,17 +255,6 @@ class Mutated(unittest.TestCase):
         " a", " 7", "|\n", "\n ", "9",
     ]
 
-    def some_piece(self, dice):
-        piece = []
-        for number in range(dice.randint(0, 8)):
-            if dice.random() < 0.25:
-                piece.append(BAR)
-                continue
-            courses = dice.sample(range(1, 15), dice.choice((0, 1, 1, 2, 3, 6, 14)))
-            stops = {course: dice.randint(0, 15) if course < 7 else 0 for course in courses}
-            piece.append((dice.choice((1, 2, 16, 16, 16, 24, 96)), stops))
-        return piece
-
     def mutate(self, dice, text):
         place = dice.randint(0, len(text))
         behind = min(len(text), place + dice.choice((0, 0, 1, 1, 2, 5)))
@@ -276,7 +265,7 @@ class Mutated(unittest.TestCase):
         dice = random.Random(4711)
         pieces = 0
         for turn in range(6000):
-            text = piece_text(turn % 3, self.some_piece(dice))
+            text = piece_text(turn % 3, some_piece(dice))
             for again in range(dice.choice((0, 1, 1, 1, 2, 3))):
                 text = self.mutate(dice, text)
             found = fault(text)

@@ -1,0 +1,32 @@
+"""A piece as it is, in whichever kind it is written, and what is asked of its lines."""
+
+from lutesigns.refusals import NoLine
+
+MOST_LINES = 512
+
+
+class Piece:
+    """A kind and lines; a line is its length and its stops by courses, a bar's length is 0."""
+
+    def __init__(self, kind, lines):
+        self.kind = kind
+        self.lines = lines
+
+
+def has_moment(lines):
+    """Whether one of the lines is no bar."""
+    return any([length > 0 for length, stops in lines])
+
+
+def line_numbers(lines, i):
+    """What line i tells: 0 of a bar; of a moment its length, how many stops, then each one's course and fret."""
+    if i >= len(lines):
+        raise NoLine()
+    length = lines[i][0]
+    stops = lines[i][1]
+    if length == 0:
+        return [0]
+    numbers = [length, len(stops)]
+    for course, fret in stops:
+        numbers.extend([course, fret])
+    return numbers
