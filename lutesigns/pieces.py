@@ -30,3 +30,14 @@ def line_numbers(lines, i):
     for course, fret in stops:
         numbers.extend([course, fret])
     return numbers
+
+
+def line_at(lines, x):
+    """The number of the line of the moment that lasts at unit x."""
+    end = 0
+    for number, line in enumerate(lines):
+        # A bar moves the end by nothing, so it never is the first to end behind x.
+        end += line[0]
+        if x < end:
+            return number
+    raise NoLine()

@@ -23,6 +23,13 @@ class NoPiece(Refusal):
         self.place = place
 
 
+class NoSecondPiece(Refusal):
+    """The second of two texts is no piece's text."""
+
+    def __init__(self):
+        Refusal.__init__(self, -8)
+
+
 class NotTaken(Refusal):
     """A kind that is none, or a number of frets that nothing is moved by."""
 

@@ -1,8 +1,8 @@
 """The calls."""
 
-from lutesigns.pieces import line_numbers
+from lutesigns.pieces import line_at, line_numbers
 from lutesigns.reading import read_piece
-from lutesigns.refusals import NoPiece, NotTaken, Refusal, TooLong
+from lutesigns.refusals import NoPiece, NoSecondPiece, NotTaken, Refusal, TooLong
 from lutesigns.signs import KIND_WORDS
 from lutesigns.writing import write_lines
 
@@ -54,6 +54,36 @@ def turn(kind, t):
         return counted(write_lines(kind, piece.lines))
     except Refusal as refusal:
         return [refusal.number]
+
+
+def same(t, u):
+    """1 if both texts tell the same piece, else 0."""
+    try:
+        check_size(t)
+        check_size(u)
+        one = read_piece(t)
+        other = read_second(u)
+    except Refusal as refusal:
+        return [refusal.number]
+    return [1 if one.lines == other.lines else 0]
+
+
+def at(x, t):
+    """The number of the line of the moment that lasts at unit x."""
+    try:
+        check_size(t)
+        piece = read_piece(t)
+        return [line_at(piece.lines, x)]
+    except Refusal as refusal:
+        return [refusal.number]
+
+
+def read_second(u):
+    """The piece that the second of two texts tells; it is refused by a number of its own."""
+    try:
+        return read_piece(u)
+    except NoPiece:
+        raise NoSecondPiece() from None
 
 
 def check_size(t):

@@ -12,9 +12,12 @@ PARAMETERS = {
     "sizes": ["t"],
     "line": ["i", "t"],
     "turn": ["kind", "t"],
+    "same": ["t", "u"],
+    "at": ["x", "t"],
 }
 TEXTS = [codes(piece_text(kind, piece)) for kind in KINDS for piece in PIECES[:3]] + NO_PIECES + TOO_LONG[:1]
 NUMBERS = {
+    "x": (0, 23, 100, 2147483647),
     "i": (0, 2, 9, 2147483647),
     "kind": (0, 1, 2, 3, 2147483647),
 }
