@@ -1,6 +1,7 @@
 """A piece as it is, in whichever kind it is written, and what is asked of its lines."""
 
-from lutesigns.refusals import NoLine
+from lutesigns.refusals import NoLine, NoResult
+from lutesigns.signs import FIRST_BASS, is_stop
 
 MOST_LINES = 512
 
@@ -41,3 +42,28 @@ def line_at(lines, x):
         if x < end:
             return number
     raise NoLine()
+
+
+def raised_lines(lines, by):
+    """The lines with each stop but the basses' by so many frets higher."""
+    return [(length, raised_stops(stops, by)) for length, stops in lines]
+
+
+def raised_stops(stops, by):
+    """A moment's stops, by so many frets higher where they are no basses."""
+    raised = []
+    for course, fret in stops:
+        reached = fret + by if course < FIRST_BASS else fret
+        if not is_stop(course, reached):
+            raise NoResult()
+        raised.append((course, reached))
+    return raised
+
+
+def cut_lines(lines, i, j):
+    """Lines i to j - 1 alone."""
+    if i >= j or j > len(lines):
+        raise NoLine()
+    if not has_moment(lines[i:j]):
+        raise NoResult()
+    return lines[i:j]

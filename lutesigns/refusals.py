@@ -42,3 +42,10 @@ class NoLine(Refusal):
 
     def __init__(self):
         Refusal.__init__(self, -4)
+
+
+class NoResult(Refusal):
+    """What would come is no piece."""
+
+    def __init__(self):
+        Refusal.__init__(self, -3)

@@ -19,6 +19,7 @@ NO_STOP = "."
 BAR = "|"
 
 FIRST_BASS = 7
+LAST_BASS = 14
 BASSES = (
     ("a", "/a", "//a", "///a", "4", "5", "6", "7"),
     ("7", "8", "9", "10", "11", "12", "13", "14"),
@@ -30,6 +31,13 @@ GERMAN_SIXTH = "+ABCDEFGHIKLMNOP"
 
 # The Italians write the highest course last; the Germans have no row of courses.
 ROW_COURSES = ((1, 2, 3, 4, 5, 6), (6, 5, 4, 3, 2, 1), ())
+
+
+def is_stop(course, fret):
+    """Whether this course may be stopped at this fret."""
+    if FIRST_BASS <= course <= LAST_BASS:
+        return fret == 0
+    return 1 <= course < FIRST_BASS and 0 <= fret < FRETS
 
 
 def german_sign(course, fret):

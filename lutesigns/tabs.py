@@ -1,9 +1,9 @@
 """The calls."""
 
-from lutesigns.pieces import line_at, line_numbers
+from lutesigns.pieces import cut_lines, line_at, line_numbers, raised_lines
 from lutesigns.reading import read_piece
 from lutesigns.refusals import NoPiece, NoSecondPiece, NotTaken, Refusal, TooLong
-from lutesigns.signs import KIND_WORDS
+from lutesigns.signs import FRETS, KIND_WORDS
 from lutesigns.writing import write_lines
 
 MOST_BYTES = 65536
@@ -78,6 +78,27 @@ def at(x, t):
         return [refusal.number]
 
 
+def up(by, t):
+    """The text of the piece with each stop on courses 1 to 6 by so many frets higher."""
+    try:
+        check_size(t)
+        piece = read_piece(t)
+        check_move(by)
+        return counted(write_lines(piece.kind, raised_lines(piece.lines, by)))
+    except Refusal as refusal:
+        return [refusal.number]
+
+
+def cut(i, j, t):
+    """The text of lines i to j - 1 alone."""
+    try:
+        check_size(t)
+        piece = read_piece(t)
+        return counted(write_lines(piece.kind, cut_lines(piece.lines, i, j)))
+    except Refusal as refusal:
+        return [refusal.number]
+
+
 def read_second(u):
     """The piece that the second of two texts tells; it is refused by a number of its own."""
     try:
@@ -95,6 +116,12 @@ def check_size(t):
 def check_kind(kind):
     """Refuses a kind that is none."""
     if kind >= len(KIND_WORDS):
+        raise NotTaken()
+
+
+def check_move(by):
+    """Refuses to move by more frets than there are above the open one."""
+    if abs(by) >= FRETS:
         raise NotTaken()
 
 

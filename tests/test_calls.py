@@ -14,9 +14,13 @@ PARAMETERS = {
     "turn": ["kind", "t"],
     "same": ["t", "u"],
     "at": ["x", "t"],
+    "up": ["by", "t"],
+    "cut": ["i", "j", "t"],
 }
 TEXTS = [codes(piece_text(kind, piece)) for kind in KINDS for piece in PIECES[:3]] + NO_PIECES + TOO_LONG[:1]
 NUMBERS = {
+    "by": (0, 1, -1, 15, -15, 16, -16, 2147483647, -2147483648),
+    "j": (1, 3, 2147483647),
     "x": (0, 23, 100, 2147483647),
     "i": (0, 2, 9, 2147483647),
     "kind": (0, 1, 2, 3, 2147483647),
