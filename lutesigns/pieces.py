@@ -67,3 +67,10 @@ def cut_lines(lines, i, j):
     if not has_moment(lines[i:j]):
         raise NoResult()
     return lines[i:j]
+
+
+def joined_lines(first, second):
+    """The first lines, then the second."""
+    if len(first) + len(second) > MOST_LINES:
+        raise NoResult()
+    return first + second

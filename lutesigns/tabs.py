@@ -1,10 +1,10 @@
 """The calls."""
 
-from lutesigns.pieces import cut_lines, line_at, line_numbers, raised_lines
+from lutesigns.pieces import cut_lines, joined_lines, line_at, line_numbers, raised_lines
 from lutesigns.reading import read_piece
 from lutesigns.refusals import NoPiece, NoSecondPiece, NotTaken, Refusal, TooLong
-from lutesigns.signs import FRETS, KIND_WORDS
-from lutesigns.writing import write_lines
+from lutesigns.signs import FRETS, KIND_WORDS, is_stop, stop_sign
+from lutesigns.writing import text_codes, write_lines
 
 MOST_BYTES = 65536
 
@@ -97,6 +97,29 @@ def cut(i, j, t):
         return counted(write_lines(piece.kind, cut_lines(piece.lines, i, j)))
     except Refusal as refusal:
         return [refusal.number]
+
+
+def join(t, u):
+    """The text, in the first one's kind, of the first one's lines, then the second one's."""
+    try:
+        check_size(t)
+        check_size(u)
+        one = read_piece(t)
+        other = read_second(u)
+        return counted(write_lines(one.kind, joined_lines(one.lines, other.lines)))
+    except Refusal as refusal:
+        return [refusal.number]
+
+
+def sign(kind, course, fret):
+    """The sign that a stop stands as among a moment's stops in a kind; 0 if it is no stop."""
+    try:
+        check_kind(kind)
+    except Refusal as refusal:
+        return [refusal.number]
+    if not is_stop(course, fret):
+        return [0]
+    return counted(text_codes(stop_sign(kind, course, fret)))
 
 
 def read_second(u):

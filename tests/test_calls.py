@@ -16,9 +16,13 @@ PARAMETERS = {
     "at": ["x", "t"],
     "up": ["by", "t"],
     "cut": ["i", "j", "t"],
+    "join": ["t", "u"],
+    "sign": ["kind", "course", "fret"],
 }
 TEXTS = [codes(piece_text(kind, piece)) for kind in KINDS for piece in PIECES[:3]] + NO_PIECES + TOO_LONG[:1]
 NUMBERS = {
+    "course": (0, 1, 6, 7, 14, 15, 2147483647),
+    "fret": (0, 1, 15, 16, 2147483647),
     "by": (0, 1, -1, 15, -15, 16, -16, 2147483647, -2147483648),
     "j": (1, 3, 2147483647),
     "x": (0, 23, 100, 2147483647),
@@ -77,8 +81,11 @@ class EveryCall(unittest.TestCase):
     def test_the_answer_is_a_list_of_its_own(self):
         for kind in KINDS:
             t = codes(piece_text(kind, [(16, FOURTEEN)]))
-            for name, values in (("judge", [t]), ("sizes", [t]), ("line", [0, t]), ("turn", [kind, t])):
-                getattr(tabs, name)(*values).append(7)
+            for answer in (
+                tabs.judge(t), tabs.sizes(t), tabs.line(0, t), tabs.turn(kind, t), tabs.same(t, t), tabs.at(0, t),
+                tabs.up(0, t), tabs.cut(0, 1, t), tabs.join(t, t),
+            ):
+                answer.append(7)
             self.assertEqual(t, codes(piece_text(kind, [(16, FOURTEEN)])))
 
     def test_long_texts_are_gone_through_by_loops(self):
