@@ -12,8 +12,7 @@ MOST_BYTES = 65536
 def judge(t):
     """How many lines a text has but the first; -6 and the place of its fault, if it is no piece's."""
     try:
-        check_size(t)
-        piece = read_piece(t)
+        piece = read_text(t)
     except NoPiece as refusal:
         return [refusal.number, refusal.place]
     except Refusal as refusal:
@@ -24,8 +23,7 @@ def judge(t):
 def sizes(t):
     """The kind, how many moments, bars and stops, and all moments' lengths together."""
     try:
-        check_size(t)
-        piece = read_piece(t)
+        piece = read_text(t)
     except Refusal as refusal:
         return [refusal.number]
     moments = [stops for length, stops in piece.lines if length > 0]
@@ -38,8 +36,7 @@ def sizes(t):
 def line(i, t):
     """Line i: 0 of a bar; of a moment its length, how many stops, then each one's course and fret."""
     try:
-        check_size(t)
-        piece = read_piece(t)
+        piece = read_text(t)
         return line_numbers(piece.lines, i)
     except Refusal as refusal:
         return [refusal.number]
@@ -48,8 +45,7 @@ def line(i, t):
 def turn(kind, t):
     """The piece's text in that kind."""
     try:
-        check_size(t)
-        piece = read_piece(t)
+        piece = read_text(t)
         check_kind(kind)
         return counted(write_lines(kind, piece.lines))
     except Refusal as refusal:
@@ -71,8 +67,7 @@ def same(t, u):
 def at(x, t):
     """The number of the line of the moment that lasts at unit x."""
     try:
-        check_size(t)
-        piece = read_piece(t)
+        piece = read_text(t)
         return [line_at(piece.lines, x)]
     except Refusal as refusal:
         return [refusal.number]
@@ -81,8 +76,7 @@ def at(x, t):
 def up(by, t):
     """The text of the piece with each stop on courses 1 to 6 by so many frets higher."""
     try:
-        check_size(t)
-        piece = read_piece(t)
+        piece = read_text(t)
         check_move(by)
         return counted(write_lines(piece.kind, raised_lines(piece.lines, by)))
     except Refusal as refusal:
@@ -92,8 +86,7 @@ def up(by, t):
 def cut(i, j, t):
     """The text of lines i to j - 1 alone."""
     try:
-        check_size(t)
-        piece = read_piece(t)
+        piece = read_text(t)
         return counted(write_lines(piece.kind, cut_lines(piece.lines, i, j)))
     except Refusal as refusal:
         return [refusal.number]
@@ -120,6 +113,12 @@ def sign(kind, course, fret):
     if not is_stop(course, fret):
         return [0]
     return counted(text_codes(stop_sign(kind, course, fret)))
+
+
+def read_text(t):
+    """The piece that the only text of a call tells."""
+    check_size(t)
+    return read_piece(t)
 
 
 def read_second(u):

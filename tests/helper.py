@@ -109,6 +109,20 @@ def some_real_piece(dice, most=8):
             return piece
 
 
+PARTS = [
+    " ", "\n", ".", "|", "a", "aa", "7", "-", "-1", "1", "10", "/", "//a", "q", "q.", "x",
+    " a", " 7", "|\n", "\n ", "9",
+]
+
+
+def mutated(dice, text):
+    """The text with something put in, taken out or put in the place of something."""
+    place = dice.randint(0, len(text))
+    behind = min(len(text), place + dice.choice((0, 0, 1, 1, 2, 5)))
+    there = dice.choice(PARTS + ["", "", text[behind:behind + 4], text[max(0, place - 4):place]])
+    return text[:place] + there + text[behind:]
+
+
 # All 14 courses, at frets that differ.
 FOURTEEN = {1: 0, 2: 15, 3: 7, 4: 10, 5: 1, 6: 12, **{course: 0 for course in range(7, 15)}}
 # Every length where its sign is written, and again where it isn't, behind a moment and behind bars.

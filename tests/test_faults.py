@@ -3,7 +3,7 @@
 import random
 import unittest
 
-from helper import ALL_STOPS, BAR, KINDS, LENGTHS, WORDS, codes, fault, german_sign, piece_text, some_piece
+from helper import ALL_STOPS, BAR, KINDS, LENGTHS, WORDS, codes, fault, german_sign, mutated, piece_text, some_piece
 from lutesigns.tabs import judge, sizes
 
 FULL = {
@@ -250,24 +250,13 @@ class GermanStops(RefusingStops):
 class Mutated(unittest.TestCase):
     """Many texts, near to pieces' texts, against the fault that the helper finds by patterns."""
 
-    PARTS = [
-        " ", "\n", ".", "|", "a", "aa", "7", "-", "-1", "1", "10", "/", "//a", "q", "q.", "x",
-        " a", " 7", "|\n", "\n ", "9",
-    ]
-
-    def mutate(self, dice, text):
-        place = dice.randint(0, len(text))
-        behind = min(len(text), place + dice.choice((0, 0, 1, 1, 2, 5)))
-        there = dice.choice(self.PARTS + ["", "", text[behind:behind + 4], text[max(0, place - 4):place]])
-        return text[:place] + there + text[behind:]
-
     def test_against_patterns(self):
         dice = random.Random(4711)
         pieces = 0
         for turn in range(6000):
             text = piece_text(turn % 3, some_piece(dice))
             for again in range(dice.choice((0, 1, 1, 1, 2, 3))):
-                text = self.mutate(dice, text)
+                text = mutated(dice, text)
             found = fault(text)
             pieces += found is None
             if found is None:

@@ -101,6 +101,52 @@ class Language(unittest.TestCase):
                 names.add(node.name)
         return names
 
+    def test_no_local_hides_a_class_or_an_import(self):
+        for file in FILES:
+            tree = ast.parse(file.read_text())
+            top = {one.name for node in tree.body if isinstance(node, ast.ImportFrom) for one in node.names}
+            top |= {node.name for node in tree.body if isinstance(node, ast.ClassDef)}
+            for function in ast.walk(tree):
+                if isinstance(function, (ast.FunctionDef, ast.Lambda)):
+                    self.assertEqual(self.bound(function) & top, set(), self.where(file, function))
+
+    def test_top_names_are_bound_once(self):
+        for file in FILES:
+            names = []
+            for node in ast.parse(file.read_text()).body:
+                if isinstance(node, ast.Assign):
+                    names.append(node.targets[0].id)
+                    self.assertNotIsInstance(node.value, (ast.List, ast.Dict, ast.Call), self.where(file, node))
+                elif isinstance(node, ast.ImportFrom):
+                    names.extend(one.asname or one.name for one in node.names)
+                elif isinstance(node, (ast.FunctionDef, ast.ClassDef)):
+                    names.append(node.name)
+            self.assertEqual(len(set(names)), len(names), file.name)
+
+    def test_texts_and_comparisons(self):
+        for file, tree, node in self.trees():
+            if isinstance(node, ast.Constant) and isinstance(node.value, str):
+                self.assertNotIn("%", node.value, self.where(file, node))
+            if isinstance(node, ast.Compare):
+                for op, right in zip(node.ops, node.comparators):
+                    if isinstance(op, (ast.Is, ast.IsNot)):
+                        self.assertIsInstance(right, ast.Constant, self.where(file, node))
+            if isinstance(node, ast.Try):
+                for handler in node.handlers:
+                    self.assertIsInstance(handler.type, ast.Name, self.where(file, node))
+                    self.assertNotIn(handler.type.id, ("Exception", "TypeError"), self.where(file, node))
+
+    def test_no_two_files_draw_from_one_another(self):
+        drawn = {}
+        for file, tree, node in self.trees():
+            if isinstance(node, ast.ImportFrom):
+                drawn.setdefault(file.stem, set()).add(node.module.split(".")[1])
+        while drawn:
+            free = [name for name in drawn if not drawn[name] & set(drawn)]
+            self.assertNotEqual(free, [], drawn)
+            for name in free:
+                del drawn[name]
+
     def test_methods(self):
         own = {node.name for file, tree, node in self.trees() if isinstance(node, ast.FunctionDef)}
         for file, tree, node in self.trees():
