@@ -4,6 +4,7 @@ A piece is a list of lines: BAR, or a moment (length, {course: fret}).
 """
 
 import re
+import unittest
 
 BAR = None
 KINDS = (0, 1, 2)
@@ -28,6 +29,23 @@ GERMAN_ROWS = {
 GERMAN_BASSES = {7: "-7", 8: "-8", 9: "-9", 10: "-10", 11: "-11", 12: "-12", 13: "-13", 14: "-14"}
 
 ALL_STOPS = [(c, f) for c in range(1, 7) for f in range(16)] + [(c, 0) for c in range(7, 15)]
+
+
+class Case(unittest.TestCase):
+    """A test that tells where two lists differ; unittest's own would compare long ones for minutes."""
+
+    def setUp(self):
+        self.addTypeEqualityFunc(list, self.lists_equal)
+
+    def lists_equal(self, first, second, msg=None):
+        if first == second:
+            return
+        place = 0
+        while first[place:place + 1] == second[place:place + 1]:
+            place += 1
+        near = slice(max(0, place - 10), place + 10)
+        self.fail("lists of %d and %d differ from place %d: %r, %r; %s" % (
+            len(first), len(second), place, first[near], second[near], msg))
 
 
 def codes(text):

@@ -3,7 +3,7 @@
 import random
 import unittest
 
-from helper import BAR, KINDS, LARGEST, LENGTHS, NO_PIECES, PIECES, TOO_LONG, codes, piece_text, some_real_piece
+from helper import BAR, KINDS, LARGEST, LENGTHS, NO_PIECES, PIECES, TOO_LONG, Case, codes, piece_text, some_real_piece
 from lutesigns.tabs import at, line, sizes
 
 BEHIND = (0, 1, 95, 96, 36864, 49152, 2147483646, 2147483647)
@@ -14,7 +14,7 @@ def lasting(piece):
     return [number for number, line in enumerate(piece) if line is not BAR for unit in range(line[0])]
 
 
-class Found(unittest.TestCase):
+class Found(Case):
     def find(self, piece, units=None):
         lines = lasting(piece)
         for kind in KINDS:
@@ -70,7 +70,7 @@ class Found(unittest.TestCase):
                     self.assertGreater(line(at(unit, t)[0], t)[0], 0)
 
 
-class Refused(unittest.TestCase):
+class Refused(Case):
     def test_behind_the_last(self):
         for piece in PIECES:
             for kind in KINDS:

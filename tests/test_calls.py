@@ -4,7 +4,7 @@ import copy
 import inspect
 import unittest
 
-from helper import FOURTEEN, KINDS, LARGEST, NO_PIECES, PIECES, TOO_LONG, codes, piece_text
+from helper import FOURTEEN, KINDS, LARGEST, NO_PIECES, PIECES, TOO_LONG, Case, codes, piece_text
 from lutesigns import tabs
 
 PARAMETERS = {
@@ -39,7 +39,7 @@ def handed_in(names):
     return many
 
 
-class EveryCall(unittest.TestCase):
+class EveryCall(Case):
     def test_the_interface(self):
         for name, parameters in PARAMETERS.items():
             found = inspect.signature(getattr(tabs, name)).parameters

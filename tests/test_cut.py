@@ -4,7 +4,7 @@ import random
 import unittest
 
 from helper import (
-    ALL_LENGTHS, BAR, KINDS, LENGTHS, NO_PIECES, PIECES, TOO_LONG, codes, counted, piece_text, some_real_piece,
+    ALL_LENGTHS, BAR, KINDS, LENGTHS, NO_PIECES, PIECES, TOO_LONG, Case, codes, counted, piece_text, some_real_piece,
 )
 from lutesigns.tabs import cut, judge, line
 
@@ -12,7 +12,7 @@ PIECE = [BAR, BAR, (24, {1: 3}), BAR, (24, {}), (12, {2: 2, 8: 0}), (12, {6: 0, 
 HUGE = (2147483646, 2147483647)
 
 
-class Cutting(unittest.TestCase):
+class Cutting(Case):
     def check(self, piece, i, j):
         for kind in KINDS:
             answer = cut(i, j, codes(piece_text(kind, piece)))
@@ -88,7 +88,7 @@ class Cutting(unittest.TestCase):
                 self.check(piece, dice.randint(0, len(piece)), dice.randint(0, len(piece) + 1))
 
 
-class Refused(unittest.TestCase):
+class Refused(Case):
     def test_no_such_lines(self):
         for kind in KINDS:
             t = codes(piece_text(kind, PIECE))

@@ -3,7 +3,9 @@
 import random
 import unittest
 
-from helper import ALL_STOPS, BAR, KINDS, LENGTHS, WORDS, codes, fault, german_sign, mutated, piece_text, some_piece
+from helper import (
+    ALL_STOPS, BAR, KINDS, LENGTHS, WORDS, Case, codes, fault, german_sign, mutated, piece_text, some_piece,
+)
 from lutesigns.tabs import judge, sizes
 
 FULL = {
@@ -14,7 +16,7 @@ FULL = {
 NO_SIGN = "#"
 
 
-class Refusing(unittest.TestCase):
+class Refusing(Case):
     def refuse(self, text, place):
         self.assertEqual(judge(codes(text)), [-6, place], text)
         self.assertEqual(sizes(codes(text)), [-6], text)
@@ -32,7 +34,7 @@ class RefusingStops(Refusing):
             self.refuse_at(self.head + marked)
 
 
-class TooLong(unittest.TestCase):
+class TooLong(Case):
     def test_by_bytes_alone(self):
         self.assertEqual(judge([0] * 65537), [-2])
         self.assertEqual(sizes([0] * 65537), [-2])
@@ -247,7 +249,7 @@ class GermanStops(RefusingStops):
         )
 
 
-class Mutated(unittest.TestCase):
+class Mutated(Case):
     """Many texts, near to pieces' texts, against the fault that the helper finds by patterns."""
 
     def test_against_patterns(self):

@@ -4,7 +4,8 @@ import random
 import unittest
 
 from helper import (
-    BAR, FOURTEEN, KINDS, LARGEST, LENGTHS, NO_PIECES, PIECES, TOO_LONG, codes, counted, piece_text, some_real_piece,
+    BAR, FOURTEEN, KINDS, LARGEST, LENGTHS, NO_PIECES, PIECES, TOO_LONG, Case, codes, counted, piece_text,
+    some_real_piece,
 )
 from lutesigns.tabs import cut, join, judge, line, same, sizes
 
@@ -15,7 +16,7 @@ def has_moment(piece):
     return any(one is not BAR for one in piece)
 
 
-class Joined(unittest.TestCase):
+class Joined(Case):
     def check(self, piece, other):
         for first in KINDS:
             for second in KINDS:
@@ -98,7 +99,7 @@ class Joined(unittest.TestCase):
             self.check(some_real_piece(dice), some_real_piece(dice))
 
 
-class Refused(unittest.TestCase):
+class Refused(Case):
     def test_513_lines_together(self):
         for many in (1, 2, 256, 257, 511, 512):
             piece, other = [(8, {1: 0})] * many, [BAR] * (512 - many) + [(2, {})]

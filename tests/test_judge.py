@@ -3,14 +3,14 @@
 import unittest
 
 from helper import (
-    ALL_STOPS, BAR, FRENCH_BASSES, FRENCH_FRETS, GERMAN_BASSES, GERMAN_ROWS, ITALIAN_BASSES, ITALIAN_FRETS,
-    KINDS, LENGTHS, WORDS, codes, piece_sizes, piece_text,
+    ALL_STOPS, BAR, FRENCH_BASSES, FRENCH_FRETS, GERMAN_BASSES, GERMAN_ROWS, ITALIAN_BASSES, ITALIAN_FRETS, KINDS,
+    LENGTHS, WORDS, Case, codes, piece_sizes, piece_text,
 )
 from lutesigns.reading import read_piece
 from lutesigns.tabs import judge, sizes
 
 
-class Accepting(unittest.TestCase):
+class Accepting(Case):
     def accept(self, text, lines, five):
         self.assertEqual(judge(codes(text)), [lines], text)
         self.assertEqual(sizes(codes(text)), five, text)
@@ -91,7 +91,7 @@ class Edges(Accepting):
             self.accept_piece([(32, {4: 5, **stops})])
 
 
-class EveryStop(unittest.TestCase):
+class EveryStop(Case):
     def lines(self, text):
         self.assertEqual(judge(codes(text)), [1], text)
         return read_piece(codes(text)).lines
@@ -136,7 +136,7 @@ class EveryStop(unittest.TestCase):
         self.assertEqual(len(ALL_STOPS), 104)
 
 
-class Calling(unittest.TestCase):
+class Calling(Case):
     TEXTS = ("french\nq a..... 7\n|\n b.....\n", "italian\nq ..... 7\n", "german\nq a e\n", "", "german\nt. 999 z\n")
 
     def test_nothing_handed_in_is_changed(self):

@@ -4,14 +4,15 @@ import random
 import unittest
 
 from helper import (
-    ALL_STOPS, BAR, FOURTEEN, KINDS, LENGTHS, NO_PIECES, PIECES, TOO_LONG, codes, line_told, piece_text, some_real_piece,
+    ALL_STOPS, BAR, FOURTEEN, KINDS, LENGTHS, NO_PIECES, PIECES, TOO_LONG, Case, codes, line_told, piece_text,
+    some_real_piece,
 )
 from lutesigns.tabs import line
 
 BEHIND = (0, 1, 2, 511, 512, 65536, 2147483646, 2147483647)
 
 
-class Told(unittest.TestCase):
+class Told(Case):
     def tell_all(self, piece, numbers=None):
         for kind in KINDS:
             t = codes(piece_text(kind, piece))
@@ -74,7 +75,7 @@ class Told(unittest.TestCase):
             self.tell_all(some_real_piece(dice))
 
 
-class Refused(unittest.TestCase):
+class Refused(Case):
     def test_behind_the_last_line(self):
         for piece in PIECES:
             for kind in KINDS:

@@ -4,7 +4,7 @@ import itertools
 import random
 import unittest
 
-from helper import BAR, KINDS, codes, mutated, piece_text, some_real_piece
+from helper import BAR, KINDS, Case, codes, mutated, piece_text, some_real_piece
 from lutesigns.tabs import at, cut, join, judge, line, same, sign, sizes, turn, up
 
 
@@ -35,7 +35,7 @@ def told(t):
     return [tuple(line(number, t)) for number in range(judge(t)[0])]
 
 
-class OneToOne(unittest.TestCase):
+class OneToOne(Case):
     """C1 and C2."""
 
     def check(self, t):
@@ -79,7 +79,7 @@ class OneToOne(unittest.TestCase):
                 self.assertEqual(texts.setdefault(key, t), t)
 
 
-class AsTheyStand(unittest.TestCase):
+class AsTheyStand(Case):
     """C3."""
 
     def test_all_calls_tell_one_piece(self):
@@ -109,7 +109,7 @@ class AsTheyStand(unittest.TestCase):
                 self.assertEqual(row.split(" ")[1:], signs or ["."])
 
 
-class ThereAndBack(unittest.TestCase):
+class ThereAndBack(Case):
     """C4."""
 
     def test_up_and_down_again(self):

@@ -4,7 +4,7 @@ import random
 import unittest
 
 from helper import (
-    ALL_STOPS, BAR, EVERY_STOP, FOURTEEN, KINDS, LENGTHS, NO_PIECES, PIECES, TOO_LONG, codes, piece_text,
+    ALL_STOPS, BAR, EVERY_STOP, FOURTEEN, KINDS, LENGTHS, NO_PIECES, PIECES, TOO_LONG, Case, codes, piece_text,
     some_real_piece,
 )
 from lutesigns.tabs import same, turn
@@ -18,7 +18,7 @@ def changed(piece, number, *lines):
     return piece[:number] + list(lines) + piece[number + 1:]
 
 
-class Compared(unittest.TestCase):
+class Compared(Case):
     def compare(self, piece, other, answer):
         for first in KINDS:
             for second in KINDS:
@@ -120,7 +120,7 @@ class Compared(unittest.TestCase):
             self.compare(piece, other, int(piece == other))
 
 
-class Refused(unittest.TestCase):
+class Refused(Case):
     def test_too_long_comes_first(self):
         for long in TOO_LONG:
             self.assertEqual(same(long, FINE), [-2])

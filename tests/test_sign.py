@@ -3,7 +3,7 @@
 import unittest
 
 from helper import (
-    ALL_STOPS, FRENCH_BASSES, FRENCH_FRETS, ITALIAN_BASSES, ITALIAN_FRETS, KINDS, codes, counted, german_sign,
+    ALL_STOPS, FRENCH_BASSES, FRENCH_FRETS, ITALIAN_BASSES, ITALIAN_FRETS, KINDS, Case, codes, counted, german_sign,
     piece_text,
 )
 from lutesigns.tabs import line, sign
@@ -20,7 +20,7 @@ def written(kind, course, fret):
     return (FRENCH_FRETS, ITALIAN_FRETS)[kind][fret]
 
 
-class Signs(unittest.TestCase):
+class Signs(Case):
     def test_as_written_out(self):
         for kind, course, fret, text in (
             (0, 1, 0, "a"), (0, 6, 9, "k"), (0, 3, 15, "q"), (0, 7, 0, "a"), (0, 8, 0, "/a"), (0, 9, 0, "//a"),
@@ -68,7 +68,7 @@ class Signs(unittest.TestCase):
                 self.assertEqual(sign(kind, far, far), [0])
 
 
-class Refused(unittest.TestCase):
+class Refused(Case):
     def test_no_kind(self):
         for kind in (3, 4) + HUGE:
             for course, fret in ALL_STOPS:

@@ -4,14 +4,14 @@ import random
 import unittest
 
 from helper import (
-    ALL_STOPS, KINDS, LARGEST, LENGTHS, NO_PIECES, PIECES, TOO_LONG, codes, counted, piece_text, some_real_piece,
+    ALL_STOPS, KINDS, LARGEST, LENGTHS, NO_PIECES, PIECES, TOO_LONG, Case, codes, counted, piece_text, some_real_piece,
 )
 from lutesigns.tabs import judge, line, turn
 
 NO_KINDS = (3, 4, 255, 2147483646, 2147483647)
 
 
-class Turned(unittest.TestCase):
+class Turned(Case):
     def turn_all(self, piece):
         texts = [piece_text(kind, piece) for kind in KINDS]
         for first in KINDS:
@@ -76,7 +76,7 @@ class Turned(unittest.TestCase):
             self.assertLess(max(sizes), 65536)
 
 
-class Refused(unittest.TestCase):
+class Refused(Case):
     def test_no_kind(self):
         for first in KINDS:
             for piece in PIECES[:3]:

@@ -4,7 +4,7 @@ import random
 import unittest
 
 from helper import (
-    ALL_LENGTHS, BAR, FOURTEEN, KINDS, LARGEST, NO_PIECES, PIECES, TOO_LONG, codes, counted, piece_text,
+    ALL_LENGTHS, BAR, FOURTEEN, KINDS, LARGEST, NO_PIECES, PIECES, TOO_LONG, Case, codes, counted, piece_text,
     some_real_piece,
 )
 from lutesigns.tabs import line, sizes, up
@@ -27,7 +27,7 @@ def raised(piece, by):
     return there
 
 
-class Raised(unittest.TestCase):
+class Raised(Case):
     def move(self, piece, by):
         there = raised(piece, by)
         for kind in KINDS:
@@ -120,7 +120,7 @@ class Raised(unittest.TestCase):
             self.move(piece, 15 - max(high, default=15))
 
 
-class Refused(unittest.TestCase):
+class Refused(Case):
     def test_no_such_move(self):
         for piece in ([(1, {})], [(1, {14: 0})], [(16, {1: 7})]):
             for by in NO_MOVES:
